@@ -1,0 +1,42 @@
+"""The examples, as the document and README.md print them."""
+
+import doctest
+import os
+import unittest
+
+README = os.path.join(os.path.dirname(os.path.dirname(os.path.abspath(__file__))), "README.md")
+
+EXAMPLES = '''
+>>> from keywait.reading import read
+>>> keymap = ((), (), {"down": {}, "leave": {}}, ((("j", {}, "down"), ("jk", {}, "leave")),), 5)
+>>> read(keymap, (), [("key", "j", 0), ("key", "k", 6)])
+([('do', 'down', 'j'), ('text', 'k')], ())
+'''
+
+
+class ExamplesTest(unittest.TestCase):
+
+    def as_printed(self, text, least):
+        """All examples of the text print what stands below them."""
+        found = doctest.DocTestParser().get_doctest(text, {}, "examples", None, 0)
+        told = []
+        result = doctest.DocTestRunner(verbose=False).run(found, out=told.append)
+        self.assertEqual("".join(told), "")
+        self.assertEqual(result.failed, 0)
+        self.assertGreaterEqual(result.attempted, least)
+
+    def test_of_the_document(self):
+        self.as_printed(EXAMPLES, 3)
+
+    def test_of_the_readme(self):
+        with open(README, encoding="ascii") as file:
+            lines = [line for line in file.read().splitlines() if not line.startswith("```")]
+        self.as_printed("\n".join(lines) + "\n", 5)
+
+    def test_k_at_the_wait_and_behind_it(self):
+        self.as_printed(EXAMPLES.replace('("key", "k", 6)', '("key", "k", 5)').replace(
+            "[('do', 'down', 'j'), ('text', 'k')]", "[('do', 'leave', 'jk')]"), 3)
+
+
+if __name__ == "__main__":
+    unittest.main()
