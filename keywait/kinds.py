@@ -40,3 +40,11 @@ def is_name(thing):
 def is_keys(thing):
     """Whether the thing is what a binding may have as its keys."""
     return is_word(thing, MOST_KEYS)
+
+
+def is_ascending(things):
+    """Whether each of the things, which have an order, is less than the next one."""
+    for low, high in zip(things, things[1:]):
+        if low >= high:
+            return False
+    return True

@@ -1,7 +1,7 @@
 """Keymaps and states: what they are, which bindings win, what a command changes."""
 
-from keywait.errors import NoCommand, NoKeys, NoMap, NoState
-from keywait.kinds import is_boolean, is_keys, is_name, is_within
+from keywait.errors import NoCommand, NoKeys, NoMap, NoState, Unlike
+from keywait.kinds import is_ascending, is_boolean, is_keys, is_name, is_within
 
 MOST_FLAGS = 3
 MOST_COMMANDS = 8
@@ -36,12 +36,7 @@ def winner(keymap, state, keys):
     check_state(keymap, state)
     if not is_keys(keys):
         raise NoKeys("keys are a string of one to four letters")
-    facts = facts_of(keymap, state)
-    for layer, bindings in enumerate(keymap[3]):
-        for index, (own_keys, condition, _) in enumerate(bindings):
-            if own_keys == keys and holds(condition, facts):
-                return (layer, index)
-    return None
+    return winner_in(keymap, state, keys)
 
 
 def bound(keymap, state):
@@ -71,11 +66,38 @@ def check_state(keymap, state):
         raise NoState("this is no state of the keymap")
 
 
+def check_alike(one, other):
+    """Raise Unlike if the two, keymaps both, are not alike in form."""
+    if one[:3] != other[:3]:
+        raise Unlike("flags, outside or commands of the keymaps differ")
+
+
+def copy_of(keymap):
+    """The keymap with dicts of its own, which no caller can change."""
+    flags, outside, commands, layers, wait = keymap
+    own_commands = {name: dict(commands[name]) for name in commands}
+    own_layers = [
+        tuple([(keys, dict(condition), command) for keys, condition, command in bindings])
+        for bindings in layers
+    ]
+    return (flags, outside, own_commands, tuple(own_layers), wait)
+
+
 def fits_state(keymap, thing):
     """Whether the thing is a state of what is known to be a keymap."""
     if not isinstance(thing, tuple) or len(thing) != len(keymap[0]):
         return False
     return all(is_boolean(value) for value in thing)
+
+
+def winner_in(keymap, state, keys):
+    """What winner returns, for a keymap, a state and keys that are checked already."""
+    facts = facts_of(keymap, state)
+    for layer, bindings in enumerate(keymap[3]):
+        for index, (own_keys, condition, _) in enumerate(bindings):
+            if own_keys == keys and holds(condition, facts):
+                return (layer, index)
+    return None
 
 
 def bound_in(keymap, state):
@@ -125,10 +147,7 @@ def are_names(thing):
     """Whether the thing is a tuple of different names, ascending."""
     if not isinstance(thing, tuple) or not all(is_name(name) for name in thing):
         return False
-    for low, high in zip(thing, thing[1:]):
-        if low >= high:
-            return False
-    return True
+    return is_ascending(thing)
 
 
 def are_settings(flags, thing):

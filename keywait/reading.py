@@ -21,7 +21,7 @@ def read(keymap, state, row):
         raise NoRow("this is no row for the keymap")
     events = []
     for keys, settings in bursts(row, keymap[4]):
-        told, state = read_burst(keymap, state, keys)
+        told, state, _ = settle(keymap, state, keys, True)
         events.extend(told)
         state = with_flags(keymap, state, settings)
     return (events, state)
@@ -79,18 +79,28 @@ def bursts(row, wait):
     return found
 
 
-def read_burst(keymap, state, keys):
-    """The events of a burst of these keys with silence behind it, and the state then."""
+def settle(keymap, state, keys, silence):
+    """The events that the keys of a burst settle, the state behind them, and the keys still held.
+
+    With silence behind the keys all of them are used.
+    """
     events = []
-    place = 0
-    while place < len(keys):
-        event = first_event(bound_in(keymap, state), keys[place:])
+    while keys:
+        table = bound_in(keymap, state)
+        if not silence and longer_ones(table, keys):
+            break
+        event = first_event(table, keys)
         if event[0] == "do":
             state = state_after(keymap, state, event[1])
         events.append(event)
         # Either kind of event has its keys at its end.
-        place += len(event[-1])
-    return (events, state)
+        keys = keys[len(event[-1]):]
+    return (events, state, keys)
+
+
+def longer_ones(table, keys):
+    """The sequences of the table of which the keys are a proper prefix."""
+    return [longer for longer in table if longer != keys and longer.startswith(keys)]
 
 
 def first_event(table, rest):
@@ -100,3 +110,14 @@ def first_event(table, rest):
         if keys in table:
             return ("do", table[keys], keys)
     return ("text", rest[0])
+
+
+def row_of(wait, parts):
+    """A row of these bursts, as bursts lists them, each so late that it stands alone."""
+    row = []
+    time = 0
+    for keys, settings in parts:
+        row.extend([("key", letter, time) for letter in keys])
+        row.extend([("set", flag, settings[flag], time) for flag in settings])
+        time += wait + 1
+    return row

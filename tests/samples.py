@@ -1,6 +1,9 @@
 """Values that several tests share: keymaps, drawn ones too, and values that are none."""
 
 import copy
+from itertools import product
+
+from keywait.maps import after, bound
 
 WAIT = 5
 
@@ -100,6 +103,13 @@ def draw_state(drawn, keymap):
     return tuple(drawn.random() < 0.5 for _ in keymap[0])
 
 
+def draw_many(drawn, many):
+    """So many drawn keymaps, each with a drawn state."""
+    for _ in range(many):
+        keymap = draw_map(drawn)
+        yield keymap, draw_state(drawn, keymap)
+
+
 def draw_row(drawn, keymap, most=30):
     """A drawn row for the keymap, with gaps about as long as its wait."""
     row = []
@@ -112,3 +122,114 @@ def draw_row(drawn, keymap, most=30):
         else:
             row.append(("key", drawn.choice("jjjkklx"), time))
     return row
+
+
+def typed(letters, start=0, gap=0):
+    """A row of these keys with equal gaps."""
+    return [("key", letter, start + place * gap) for place, letter in enumerate(letters)]
+
+
+def binding_just(*sequences):
+    """A keymap without flags that binds each sequence to a command of the same name."""
+    bindings = tuple((keys, {}, keys) for keys in sequences)
+    return ((), (), {keys: {} for keys in sequences}, (bindings,), WAIT)
+
+
+def plain_bursts(row, wait):
+    """The row cut before each set entry, behind it, and in each gap longer than the wait."""
+    cuts = [0]
+    for place in range(1, len(row)):
+        one, other = row[place - 1], row[place]
+        if "set" in (one[0], other[0]) or other[-1] > one[-1] + wait:
+            cuts.append(place)
+    return [row[cut:end] for cut, end in zip(cuts, cuts[1:] + [len(row)]) if row]
+
+
+def plain_read(keymap, state, row):
+    """What the words of [4] and [5] say, in another way than the program."""
+    events = []
+    for part in plain_bursts(row, keymap[4]):
+        if part[0][0] == "set":
+            place = keymap[0].index(part[0][1])
+            state = state[:place] + (part[0][2],) + state[place + 1:]
+            continue
+        rest = "".join(entry[1] for entry in part)
+        while rest:
+            table = bound(keymap, state)
+            fitting = sorted((keys for keys in table if rest.startswith(keys)), key=len)
+            if fitting:
+                events.append(("do", table[fitting[-1]], fitting[-1]))
+                state = after(keymap, state, table[fitting[-1]])
+            else:
+                events.append(("text", rest[0]))
+            rest = rest[len(events[-1][-1]):]
+    return (events, state)
+
+
+def draw_other(drawn, keymap):
+    """A drawn keymap that is alike in form, with other bindings and another wait."""
+    names = list(keymap[2])
+    bindings = tuple(
+        (draw_word(drawn, "jjkl", 4), draw_settings(drawn, keymap[0]), drawn.choice([None, *names]))
+        for _ in range(drawn.randint(0, 12)))
+    return keymap[:3] + ((bindings,), drawn.choice([1, 2, 5]))
+
+
+def draw_call(drawn, keymap, time):
+    """A drawn call of a Reader, as (name, argument, ..), that it accepts behind this time."""
+    time += drawn.choice([0, 0, 1, keymap[4], keymap[4] + 1, 2 * keymap[4]])
+    name = drawn.choice(["key"] * 12 + ["change", "change", "advance", "advance", "finish", "swap"])
+    if name == "change" and keymap[1]:
+        return ("change", drawn.choice(keymap[1]), drawn.random() < 0.5, time)
+    if name == "swap":
+        return ("swap", draw_other(drawn, keymap))
+    if name == "finish":
+        return ("finish",)
+    if name == "advance":
+        return ("advance", time)
+    return ("key", drawn.choice("jjjkklx"), time)
+
+
+def all_states(keymap):
+    """All states of the keymap, ascending."""
+    return sorted(product([False, True], repeat=len(keymap[0])))
+
+
+def plain_edges(keymap, state):
+    """(keys, state behind) of each bound sequence and each set entry, whose keys are ""."""
+    table = bound(keymap, state)
+    edges = [(keys, after(keymap, state, table[keys])) for keys in table]
+    for flag, value in product(keymap[1], [False, True]):
+        place = keymap[0].index(flag)
+        edges.append(("", state[:place] + (value,) + state[place + 1:]))
+    return edges
+
+
+def plain_numbers(keymap, state):
+    """The fewest keys to each reachable state: all edges, again and again, until nothing is less."""
+    numbers = {state: 0}
+    before = None
+    while numbers != before:
+        before = dict(numbers)
+        for here in before:
+            for keys, behind in plain_edges(keymap, here):
+                numbers[behind] = min(numbers.get(behind, 1000), numbers[here] + len(keys))
+    return numbers
+
+
+def keys_in(row):
+    """How many keys the row has."""
+    return sum(entry[0] == "key" for entry in row)
+
+
+def plain_steps(keymap, state, row):
+    """(state before, event) for each event of the row, in order."""
+    told = []
+    for part in plain_bursts(row, keymap[4]):
+        events, last = plain_read(keymap, state, part)
+        for event in events:
+            told.append((state, event))
+            if event[0] == "do":
+                state = after(keymap, state, event[1])
+        state = last
+    return told

@@ -11,6 +11,15 @@ EXAMPLES = '''
 >>> keymap = ((), (), {"down": {}, "leave": {}}, ((("j", {}, "down"), ("jk", {}, "leave")),), 5)
 >>> read(keymap, (), [("key", "j", 0), ("key", "k", 6)])
 ([('do', 'down', 'j'), ('text', 'k')], ())
+>>> from keywait.reader import Reader
+>>> keymap = ((), (), {"down": {}, "leave": {}}, ((("j", {}, "down"), ("jk", {}, "leave")),), 5)
+>>> reader = Reader(keymap, ())
+>>> [reader.key("j", 0), reader.held(), reader.advance(5), reader.advance(6), reader.held(), reader.used()]
+[[], 'j', [], [('do', 'down', 'j')], '', 1]
+>>> from keywait.reach import firing
+>>> keymap = ((), (), {"down": {}, "up": {}}, ((("j", {}, "down"), ("j", {}, "up")),), 5)
+>>> firing(keymap, (), 0, 1)
+('never', {(): ('stronger', 0, 0)})
 '''
 
 
@@ -26,16 +35,16 @@ class ExamplesTest(unittest.TestCase):
         self.assertGreaterEqual(result.attempted, least)
 
     def test_of_the_document(self):
-        self.as_printed(EXAMPLES, 3)
+        self.as_printed(EXAMPLES, 10)
 
     def test_of_the_readme(self):
         with open(README, encoding="ascii") as file:
             lines = [line for line in file.read().splitlines() if not line.startswith("```")]
-        self.as_printed("\n".join(lines) + "\n", 5)
+        self.as_printed("\n".join(lines) + "\n", 20)
 
     def test_k_at_the_wait_and_behind_it(self):
         self.as_printed(EXAMPLES.replace('("key", "k", 6)', '("key", "k", 5)').replace(
-            "[('do', 'down', 'j'), ('text', 'k')]", "[('do', 'leave', 'jk')]"), 3)
+            "[('do', 'down', 'j'), ('text', 'k')]", "[('do', 'leave', 'jk')]"), 10)
 
 
 if __name__ == "__main__":

@@ -3,9 +3,11 @@
 import inspect
 import unittest
 
-from keywait import maps, reading
-from keywait.errors import NoCommand, NoKeys, NoMap, NoRow, NoState
-from tests.samples import KEYMAP, STRANGE, call
+from keywait import futures, maps, reach, reader, reading
+from keywait.errors import (
+    NoBinding, NoCommand, NoFlag, NoKeys, NoMap, NoNumber, NoRow, NoState, NoTime, Unlike,
+)
+from tests.samples import KEYMAP, PLAIN, STRANGE, call, with_part
 
 ENTRIES = [
     (maps, "is_map", ["thing"]),
@@ -15,7 +17,26 @@ ENTRIES = [
     (maps, "after", ["keymap", "state", "command"]),
     (reading, "is_row", ["keymap", "thing"]),
     (reading, "read", ["keymap", "state", "row"]),
+    (futures, "futures", ["keymap", "state", "held"]),
+    (futures, "is_split", ["keymap", "state", "held", "thing"]),
+    (reach, "reachable", ["keymap", "state"]),
+    (reach, "is_closed", ["keymap", "state", "thing"]),
+    (reach, "firing", ["keymap", "state", "layer", "index"]),
+    (reach, "is_never", ["keymap", "state", "layer", "index", "thing"]),
 ]
+METHODS = {
+    "__init__": ["keymap", "state"],
+    "key": ["letter", "time"],
+    "change": ["flag", "value", "time"],
+    "advance": ["time"],
+    "finish": [],
+    "held": [],
+    "state": [],
+    "used": [],
+    "calls": [],
+    "swap": ["keymap"],
+    "back": ["count"],
+}
 STATE = (True, False)
 NO_MAP = KEYMAP[:4] + (True,)
 NO_STATE = (1, 0)
@@ -31,6 +52,27 @@ CASES = [
     (reading.is_row, (KEYMAP, []), [(NO_MAP, NoMap)]),
     (reading.read, (KEYMAP, STATE, []),
      [(NO_MAP, NoMap), (NO_STATE, NoState), ([("key", "j", True)], NoRow)]),
+    (futures.futures, (KEYMAP, STATE, "j"),
+     [(NO_MAP, NoMap), (NO_STATE, NoState), ("jkjk", NoKeys)]),
+    (futures.is_split, (KEYMAP, STATE, "j", None),
+     [(NO_MAP, NoMap), (NO_STATE, NoState), ("", NoKeys)]),
+    (reach.reachable, (KEYMAP, STATE), [(NO_MAP, NoMap), (NO_STATE, NoState)]),
+    (reach.is_closed, (KEYMAP, STATE, None), [(NO_MAP, NoMap), (NO_STATE, NoState)]),
+    (reach.firing, (KEYMAP, STATE, 0, 0),
+     [(NO_MAP, NoMap), (NO_STATE, NoState), (True, NoBinding), (3, NoBinding)]),
+    (reach.is_never, (KEYMAP, STATE, 0, 0, None),
+     [(NO_MAP, NoMap), (NO_STATE, NoState), (-1, NoBinding), (None, NoBinding)]),
+    (reader.Reader, (KEYMAP, STATE), [(NO_MAP, NoMap), (NO_STATE, NoState)]),
+]
+
+# The same for the methods of a Reader that has passed the time 3.
+METHOD_CASES = [
+    ("key", ("j", 3), [("jk", NoKeys), (2, NoTime)]),
+    ("change", ("a", True, 3), [("b", NoFlag), (1, NoFlag), (2, NoTime)]),
+    ("advance", (3,), [(2, NoTime)]),
+    ("back", (1,), [(2, NoNumber)]),
+    ("swap", (KEYMAP,), [(NO_MAP, NoMap)]),
+    ("swap", (with_part(KEYMAP, 3, ((),)),), [(PLAIN, Unlike)]),
 ]
 
 
@@ -49,6 +91,29 @@ class InterfaceTest(unittest.TestCase):
                 self.assertTrue(inspect.isfunction(function))
                 self.assertEqual(function.__module__, module.__name__)
                 self.assertEqual(list(inspect.signature(function).parameters), parameters)
+
+    def test_the_methods_of_a_reader(self):
+        self.assertTrue(inspect.isclass(reader.Reader))
+        self.assertEqual(reader.Reader.__module__, "keywait.reader")
+        for name, parameters in METHODS.items():
+            with self.subTest(name=name):
+                method = vars(reader.Reader)[name]
+                self.assertTrue(inspect.isfunction(method))
+                self.assertEqual(list(inspect.signature(method).parameters)[1:], parameters)
+        public = {name for name in vars(reader.Reader) if not name.startswith("_")}
+        self.assertEqual(public, set(METHODS) - {"__init__"})
+
+    def test_wrong_arguments_of_the_methods(self):
+        for name, good, wrongs in METHOD_CASES:
+            for first, (_, kind) in enumerate(wrongs):
+                for last in range(first, len(wrongs)):
+                    arguments = good[:first] + tuple(wrong for wrong, _ in wrongs[first:last + 1]) + good[last + 1:]
+                    with self.subTest(name=name, arguments=repr(arguments)[:60]):
+                        one = reader.Reader(KEYMAP, STATE)
+                        one.advance(3)
+                        self.refused(kind, getattr(one, name), *arguments)
+                        self.assertEqual(one.calls(), 1)
+                        call(getattr(one, name), *good)
 
     def test_good_arguments_raise_nothing(self):
         for function, good, _ in CASES:
@@ -83,7 +148,8 @@ class InterfaceTest(unittest.TestCase):
     def test_strange_values_for_each_argument(self):
         for function, good, wrongs in CASES:
             for place, (_, kind) in enumerate(wrongs):
-                if place == 2 and function in (maps.winner, reading.read):
+                # Some of the strange values are right there: they are tested below and elsewhere.
+                if kind in (NoKeys, NoRow, NoBinding):
                     continue
                 for thing in STRANGE:
                     with self.subTest(function=function.__name__, thing=repr(thing)[:60]):
@@ -95,6 +161,7 @@ class InterfaceTest(unittest.TestCase):
             with self.subTest(thing=repr(thing)[:60]):
                 if thing not in ["a", "j", "key"]:
                     self.refused(NoKeys, maps.winner, KEYMAP, STATE, thing)
+                    self.refused(NoKeys, futures.futures, KEYMAP, STATE, thing)
                 if thing != []:
                     self.refused(NoRow, reading.read, KEYMAP, STATE, thing)
 

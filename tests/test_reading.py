@@ -4,22 +4,13 @@ import random
 import unittest
 
 from keywait.errors import NoMap, NoRow, NoState
-from keywait.maps import after, bound, is_state
+from keywait.maps import is_state
 from keywait.reading import read
-from tests.samples import KEYMAP, PLAIN, WAIT, call, draw_map, draw_row, draw_state, exactly, with_part
+from tests.samples import (
+    KEYMAP, PLAIN, WAIT, binding_just, call, draw_map, draw_row, draw_state, exactly, plain_read, typed, with_part,
+)
 
 LATEST = 10 ** 9
-
-
-def typed(letters, start=0, gap=0):
-    """A row of these keys with equal gaps."""
-    return [("key", letter, start + place * gap) for place, letter in enumerate(letters)]
-
-
-def binding_just(*sequences):
-    """A keymap without flags that binds each sequence to a command of the same name."""
-    bindings = tuple((keys, {}, keys) for keys in sequences)
-    return ((), (), {keys: {} for keys in sequences}, (bindings,), WAIT)
 
 
 def keys_of(events):
@@ -30,37 +21,6 @@ def keys_of(events):
 def told(events):
     """The events in short: "jk" of a command in capitals, text as it is."""
     return " ".join(event[2].upper() if event[0] == "do" else event[1] for event in events)
-
-
-def plain_bursts(row, wait):
-    """The row cut before each set entry, behind it, and in each gap longer than the wait."""
-    cuts = [0]
-    for place in range(1, len(row)):
-        one, other = row[place - 1], row[place]
-        if "set" in (one[0], other[0]) or other[-1] > one[-1] + wait:
-            cuts.append(place)
-    return [row[cut:end] for cut, end in zip(cuts, cuts[1:] + [len(row)]) if row]
-
-
-def plain_read(keymap, state, row):
-    """What the words of [4] and [5] say, in another way than the program."""
-    events = []
-    for part in plain_bursts(row, keymap[4]):
-        if part[0][0] == "set":
-            place = keymap[0].index(part[0][1])
-            state = state[:place] + (part[0][2],) + state[place + 1:]
-            continue
-        rest = "".join(entry[1] for entry in part)
-        while rest:
-            table = bound(keymap, state)
-            fitting = sorted((keys for keys in table if rest.startswith(keys)), key=len)
-            if fitting:
-                events.append(("do", table[fitting[-1]], fitting[-1]))
-                state = after(keymap, state, table[fitting[-1]])
-            else:
-                events.append(("text", rest[0]))
-            rest = rest[len(events[-1][-1]):]
-    return (events, state)
 
 
 class BurstTest(unittest.TestCase):
