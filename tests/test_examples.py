@@ -20,6 +20,11 @@ EXAMPLES = '''
 >>> keymap = ((), (), {"down": {}, "up": {}}, ((("j", {}, "down"), ("j", {}, "up")),), 5)
 >>> firing(keymap, (), 0, 1)
 ('never', {(): ('stronger', 0, 0)})
+>>> from keywait.changes import changes
+>>> before = ((), (), {"down": {}, "leave": {}}, ((("j", {}, "down"),),), 5)
+>>> after = ((), (), {"down": {}, "leave": {}}, ((("j", {}, "down"), ("jk", {}, "leave")),), 5)
+>>> changes(before, after, ())
+([((), 'jk', None, 'leave')], [], [], [((), 'j', True)], [])
 '''
 
 
@@ -35,7 +40,7 @@ class ExamplesTest(unittest.TestCase):
         self.assertGreaterEqual(result.attempted, least)
 
     def test_of_the_document(self):
-        self.as_printed(EXAMPLES, 10)
+        self.as_printed(EXAMPLES, 14)
 
     def test_of_the_readme(self):
         with open(README, encoding="ascii") as file:
@@ -44,7 +49,7 @@ class ExamplesTest(unittest.TestCase):
 
     def test_k_at_the_wait_and_behind_it(self):
         self.as_printed(EXAMPLES.replace('("key", "k", 6)', '("key", "k", 5)').replace(
-            "[('do', 'down', 'j'), ('text', 'k')]", "[('do', 'leave', 'jk')]"), 10)
+            "[('do', 'down', 'j'), ('text', 'k')]", "[('do', 'leave', 'jk')]"), 14)
 
 
 if __name__ == "__main__":

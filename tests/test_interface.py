@@ -3,7 +3,7 @@
 import inspect
 import unittest
 
-from keywait import futures, maps, reach, reader, reading
+from keywait import changes, compare, futures, maps, reach, reader, reading, typist
 from keywait.errors import (
     NoBinding, NoCommand, NoFlag, NoKeys, NoMap, NoNumber, NoRow, NoState, NoTime, Unlike,
 )
@@ -23,6 +23,12 @@ ENTRIES = [
     (reach, "is_closed", ["keymap", "state", "thing"]),
     (reach, "firing", ["keymap", "state", "layer", "index"]),
     (reach, "is_never", ["keymap", "state", "layer", "index", "thing"]),
+    (compare, "compare", ["one", "other", "state"]),
+    (compare, "is_agreement", ["one", "other", "state", "thing"]),
+    (changes, "changes", ["before", "after", "state"]),
+    (changes, "spare", ["keymap", "state"]),
+    (typist, "type_text", ["keymap", "state", "text"]),
+    (typist, "is_apart", ["keymap", "state", "text", "thing"]),
 ]
 METHODS = {
     "__init__": ["keymap", "state"],
@@ -63,6 +69,12 @@ CASES = [
     (reach.is_never, (KEYMAP, STATE, 0, 0, None),
      [(NO_MAP, NoMap), (NO_STATE, NoState), (-1, NoBinding), (None, NoBinding)]),
     (reader.Reader, (KEYMAP, STATE), [(NO_MAP, NoMap), (NO_STATE, NoState)]),
+    (compare.compare, (KEYMAP, KEYMAP, STATE), [(NO_MAP, NoMap), (NO_MAP, NoMap), (NO_STATE, NoState)]),
+    (compare.is_agreement, (KEYMAP, KEYMAP, STATE, None), [(NO_MAP, NoMap), (NO_MAP, NoMap), (NO_STATE, NoState)]),
+    (changes.changes, (KEYMAP, KEYMAP, STATE), [(NO_MAP, NoMap), (NO_MAP, NoMap), (NO_STATE, NoState)]),
+    (changes.spare, (KEYMAP, STATE), [(NO_MAP, NoMap), (NO_STATE, NoState)]),
+    (typist.type_text, (KEYMAP, STATE, "j"), [(NO_MAP, NoMap), (NO_STATE, NoState), ("", NoKeys)]),
+    (typist.is_apart, (KEYMAP, STATE, "j", None), [(NO_MAP, NoMap), (NO_STATE, NoState), ("", NoKeys)]),
 ]
 
 # The same for the methods of a Reader that has passed the time 3.
