@@ -90,6 +90,14 @@ def fits_state(keymap, thing):
     return all(is_boolean(value) for value in thing)
 
 
+def states_of(keymap):
+    """All states of the keymap, ascending."""
+    found = [()]
+    for _ in keymap[0]:
+        found = [state + (value,) for state in found for value in (False, True)]
+    return found
+
+
 def winner_in(keymap, state, keys):
     """What winner returns, for a keymap, a state and keys that are checked already."""
     facts = facts_of(keymap, state)

@@ -1,4 +1,4 @@
-"""Pairs of keymaps that are alike in form: drawn ones, and what the document's words say of them."""
+"""Pairs of keymaps that are alike in form, drawn ones too; and rows, all short ones and what they do."""
 
 from itertools import product
 
@@ -89,3 +89,16 @@ def all_rows(keymap, letters, gaps, most):
                         row.extend([("set", flag, value, time) for flag, value in between])
                         row.append(("key", letter, time))
                     yield row
+
+
+def without(keymap, layer, index):
+    """The keymap with this one binding dropped."""
+    layers = [list(one) for one in keymap[3]]
+    del layers[layer][index]
+    return with_part(keymap, 3, tuple(tuple(one) for one in layers))
+
+
+def does(events, names):
+    """Whether the events fire the commands in this order."""
+    fired = iter([event[1] for event in events if event[0] == "do"])
+    return all(name in fired for name in names)

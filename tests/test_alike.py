@@ -9,8 +9,8 @@ from keywait.maps import bound
 from keywait.reach import reachable
 from keywait.reader import Reader
 from keywait.reading import read
-from tests.pairs import draw_pairs, draw_twins
-from tests.samples import call, draw_call, draw_row, with_part
+from tests.pairs import draw_pairs, draw_twins, without
+from tests.samples import call, draw_call, draw_row
 
 
 def of_both(drawn, one, other, time):
@@ -109,9 +109,7 @@ class PairsTest(unittest.TestCase):
         for one, _, state in draw_pairs(drawn, 60):
             for layer, index in call(spare, one, state):
                 seen += 1
-                layers = [list(row) for row in one[3]]
-                del layers[layer][index]
-                dropped = with_part(one, 3, tuple(tuple(row) for row in layers))
+                dropped = without(one, layer, index)
                 for _ in range(4):
                     row = draw_row(drawn, one)
                     self.assertEqual(read(one, state, row), read(dropped, state, row))

@@ -7,7 +7,7 @@ from keywait.changes import changes, spare
 from keywait.compare import compare
 from keywait.errors import NoMap, NoState, Unlike
 from keywait.maps import bound, is_map
-from tests.pairs import draw_edit, draw_pairs, plain_least
+from tests.pairs import draw_edit, draw_pairs, plain_least, without
 from tests.samples import (
     KEYMAP, PLAIN, STATES, STRANGE, WAIT, all_states, binding_just, call, draw_many, exactly, plain_numbers,
     with_part,
@@ -183,13 +183,6 @@ class ChangesTest(unittest.TestCase):
                     self.assertEqual([row[:2] if one is told[0] else row for row in one],
                                      sorted([row[:2] if one is told[0] else row for row in one]))
                 keymap = edited
-
-
-def without(keymap, layer, index):
-    """The keymap with this one binding dropped."""
-    layers = [list(one) for one in keymap[3]]
-    del layers[layer][index]
-    return with_part(keymap, 3, tuple(tuple(one) for one in layers))
 
 
 class SpareTest(unittest.TestCase):

@@ -25,6 +25,10 @@ EXAMPLES = '''
 >>> after = ((), (), {"down": {}, "leave": {}}, ((("j", {}, "down"), ("jk", {}, "leave")),), 5)
 >>> changes(before, after, ())
 ([((), 'jk', None, 'leave')], [], [], [((), 'j', True)], [])
+>>> from keywait.gaps import mattering
+>>> keymap = ((), (), {"down": {}, "leave": {}}, ((("j", {}, "down"), ("jk", {}, "leave")),), 5)
+>>> mattering(keymap, (), "xjk", "oo", 1)
+'ll'
 '''
 
 
@@ -40,7 +44,7 @@ class ExamplesTest(unittest.TestCase):
         self.assertGreaterEqual(result.attempted, least)
 
     def test_of_the_document(self):
-        self.as_printed(EXAMPLES, 14)
+        self.as_printed(EXAMPLES, 17)
 
     def test_of_the_readme(self):
         with open(README, encoding="ascii") as file:
@@ -49,7 +53,7 @@ class ExamplesTest(unittest.TestCase):
 
     def test_k_at_the_wait_and_behind_it(self):
         self.as_printed(EXAMPLES.replace('("key", "k", 6)', '("key", "k", 5)').replace(
-            "[('do', 'down', 'j'), ('text', 'k')]", "[('do', 'leave', 'jk')]"), 14)
+            "[('do', 'down', 'j'), ('text', 'k')]", "[('do', 'leave', 'jk')]"), 17)
 
 
 if __name__ == "__main__":

@@ -3,9 +3,11 @@
 import inspect
 import unittest
 
-from keywait import changes, compare, futures, maps, reach, reader, reading, typist
+from keywait import (
+    changes, compare, doing, futures, gaps, machines, maps, reach, reader, reading, texts, typist,
+)
 from keywait.errors import (
-    NoBinding, NoCommand, NoFlag, NoKeys, NoMap, NoNumber, NoRow, NoState, NoTime, Unlike,
+    NoBinding, NoCommand, NoFlag, NoGaps, NoKeys, NoMap, NoNumber, NoRow, NoState, NoText, NoTime, Unlike,
 )
 from tests.samples import KEYMAP, PLAIN, STRANGE, call, with_part
 
@@ -29,6 +31,14 @@ ENTRIES = [
     (changes, "spare", ["keymap", "state"]),
     (typist, "type_text", ["keymap", "state", "text"]),
     (typist, "is_apart", ["keymap", "state", "text", "thing"]),
+    (doing, "least_keys", ["keymap", "state", "names"]),
+    (doing, "is_table", ["keymap", "names", "thing"]),
+    (gaps, "readings", ["keymap", "state", "keys", "gaps"]),
+    (gaps, "mattering", ["keymap", "state", "keys", "gaps", "place"]),
+    (machines, "machine", ["keymap", "state"]),
+    (machines, "parting", ["keymap", "state", "one", "other"]),
+    (texts, "write_map", ["keymap"]),
+    (texts, "read_map", ["text"]),
 ]
 METHODS = {
     "__init__": ["keymap", "state"],
@@ -75,6 +85,17 @@ CASES = [
     (changes.spare, (KEYMAP, STATE), [(NO_MAP, NoMap), (NO_STATE, NoState)]),
     (typist.type_text, (KEYMAP, STATE, "j"), [(NO_MAP, NoMap), (NO_STATE, NoState), ("", NoKeys)]),
     (typist.is_apart, (KEYMAP, STATE, "j", None), [(NO_MAP, NoMap), (NO_STATE, NoState), ("", NoKeys)]),
+    (doing.least_keys, (KEYMAP, STATE, ("go",)), [(NO_MAP, NoMap), (NO_STATE, NoState), (("gone",), NoCommand)]),
+    (doing.is_table, (KEYMAP, ("go",), None), [(NO_MAP, NoMap), (["go"], NoCommand)]),
+    (gaps.readings, (KEYMAP, STATE, "jk", "o"),
+     [(NO_MAP, NoMap), (NO_STATE, NoState), ("", NoKeys), ("oo", NoGaps)]),
+    (gaps.mattering, (KEYMAP, STATE, "jk", "o", 0),
+     [(NO_MAP, NoMap), (NO_STATE, NoState), ("jK", NoKeys), ("x", NoGaps), (False, NoGaps)]),
+    (machines.machine, (KEYMAP, STATE), [(NO_MAP, NoMap), (NO_STATE, NoState)]),
+    (machines.parting, (KEYMAP, STATE, 0, 0),
+     [(NO_MAP, NoMap), (NO_STATE, NoState), (99, NoNumber), (None, NoNumber)]),
+    (texts.write_map, (KEYMAP,), [(NO_MAP, NoMap)]),
+    (texts.read_map, (texts.write_map(KEYMAP),), [("", NoText)]),
 ]
 
 # The same for the methods of a Reader that has passed the time 3.
@@ -161,7 +182,7 @@ class InterfaceTest(unittest.TestCase):
         for function, good, wrongs in CASES:
             for place, (_, kind) in enumerate(wrongs):
                 # Some of the strange values are right there: they are tested below and elsewhere.
-                if kind in (NoKeys, NoRow, NoBinding):
+                if kind in (NoKeys, NoRow, NoBinding, NoGaps, NoNumber):
                     continue
                 for thing in STRANGE:
                     with self.subTest(function=function.__name__, thing=repr(thing)[:60]):

@@ -3,16 +3,37 @@
 import random
 import unittest
 
+from keywait.changes import changes, spare
+from keywait.compare import compare, is_agreement
+from keywait.doing import is_table, least_keys
 from keywait.errors import NoMap, NoRow, NoState
+from keywait.futures import futures
+from keywait.gaps import mattering, readings
 from keywait.kinds import is_boolean, is_integer, is_keys, is_letter, is_name, is_within
+from keywait.machines import machine, parting
 from keywait.maps import after, bound, is_map, is_state, winner
+from keywait.reach import firing, is_closed, reachable
 from keywait.reading import is_row, read
+from keywait.texts import read_map, write_map
+from keywait.typist import is_apart, type_text
+from tests.pairs import draw_pairs
 from tests.samples import (
     KEYMAP, STATES, STRANGE, call, draw_map, draw_row, draw_state, exactly, with_binding, with_part,
 )
 
 STATE = (True, False)
 TWO = ("a", "b")
+
+
+def parts_of(thing):
+    """All lists and dicts in the thing, each as often as it stands there."""
+    found = [thing] if isinstance(thing, (list, dict)) else []
+    if isinstance(thing, dict):
+        thing = list(thing.values())
+    if isinstance(thing, (list, tuple)):
+        for one in thing:
+            found += parts_of(one)
+    return found
 
 
 class BooleansTest(unittest.TestCase):
@@ -80,6 +101,46 @@ class ReturnedTest(unittest.TestCase):
         self.assertIs(call(is_map, KEYMAP), True)
         self.assertIs(call(is_row, KEYMAP, []), True)
         self.assertIs(call(is_state, KEYMAP, STATE), True)
+
+    def test_each_list_and_dict_stands_at_one_place(self):
+        drawn = random.Random(2)
+        for keymap, other, state in draw_pairs(drawn, 60):
+            names = tuple(sorted(keymap[2])[:2])
+            calls = [
+                (bound, keymap, state), (read, keymap, state, draw_row(drawn, keymap)), (reachable, keymap, state),
+                (compare, keymap, other, state), (changes, keymap, other, state), (spare, keymap, state),
+                (type_text, keymap, state, "jklxkjl"), (readings, keymap, state, "jkljx", "olso"),
+                (mattering, keymap, state, "jkl", "oo", 1), (machine, keymap, state), (futures, keymap, state, "j"),
+                (parting, keymap, state, 0, len(machine(keymap, state)) - 1), (read_map, write_map(keymap)),
+            ]
+            calls += [(least_keys, keymap, state, names)] if names else []
+            calls += [(firing, keymap, state, layer, index) for layer, row in enumerate(keymap[3])
+                      for index, binding in enumerate(row) if binding[2] is not None]
+            for function, *arguments in calls:
+                with self.subTest(function=function.__name__):
+                    expected = call(function, *arguments)
+                    found = parts_of(function(*arguments))
+                    self.assertEqual(len({id(one) for one in found}), len(found))
+                    given = {id(one) for one in parts_of(arguments)}
+                    self.assertFalse(given & {id(one) for one in found})
+                    for one in found:
+                        one.clear()
+                    self.assertEqual(exactly(call(function, *arguments)), exactly(expected))
+
+    def test_what_was_returned_may_be_passed_again(self):
+        drawn = random.Random(3)
+        for keymap, other, state in draw_pairs(drawn, 60):
+            found = reachable(keymap, state)
+            for here, (_, row) in found.items():
+                self.assertEqual(call(read, keymap, state, row)[1], here)
+            self.assertIs(call(is_closed, keymap, state, sorted(found)), True)
+            word, told = compare(keymap, other, state)
+            self.assertIs(call(is_agreement, keymap, other, state, told), word == "same")
+            for told in type_text(keymap, state, "jkxlk")[2:]:
+                self.assertIs(call(is_apart, keymap, state, "jkxlk", told), True)
+            for name in keymap[2]:
+                self.assertIs(call(is_table, keymap, (name,), least_keys(keymap, state, (name,))[2]), True)
+            self.assertIs(call(is_map, read_map(write_map(keymap))), True)
 
     def test_no_returned_dict_is_one_of_the_arguments(self):
         for state in STATES:
