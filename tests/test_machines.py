@@ -293,6 +293,15 @@ class PartingTest(MachineCase):
         self.assertEqual(self.parts(keymap, (False, False, False), table, picked, 0, 3), words)
         self.assertEqual(set(self.all_pairs(keymap, (False, False, False))), {1, 2, 3})
 
+    def test_the_shortest_of_several_ways(self):
+        # Behind j, x tells the two apart; behind k, which comes later in the order, only m and then x.
+        keymap = (("a", "b", "c"), (), {"pick": {"a": True}, "near": {"b": True}, "far": {"c": True}, "x": {}},
+                  ((("p", {"b": False, "c": False}, "pick"), ("j", {"c": False}, "near"), ("k", {"b": False}, "far"),
+                    ("m", {"c": True}, "near"), ("x", {"a": True, "b": True}, "x")),), WAIT)
+        table = machine(keymap, (False, False, False))
+        words = self.parts(keymap, (False, False, False), table, 0, table[0]["p"][1], 2)
+        self.assertEqual(words, ["j", "x"])
+
     def test_a_change_from_outside_parts(self):
         keymap = (("a", "b"), ("b",), {"on": {"a": True}, "go": {}},
                   ((("j", {"b": False}, "on"), ("j", {"a": True}, "go")),), WAIT)
